@@ -41,12 +41,22 @@ func Valid(text string) bool {
 
 // Choose tells which of two images is to run: 0, 1 or None.
 func Choose(a string, b string, strikes [2]int) int {
-	chosen := best(a, b, strikes)
-	if chosen == None {
-		// Struck out is better than dead: all valid images get another chance.
-		chosen = best(a, b, [2]int{})
-	}
+	chosen, _ := Decide(a, b, strikes)
 	return chosen
+}
+
+// Decide makes the choice, and tells the strikes as they are behind it.
+func Decide(a string, b string, strikes [2]int) (int, [2]int) {
+	chosen := best(a, b, strikes)
+	if chosen != None {
+		return chosen, strikes
+	}
+	// Struck out is better than dead: all valid images get another chance.
+	chosen = best(a, b, [2]int{})
+	if chosen == None {
+		return None, strikes
+	}
+	return chosen, [2]int{}
 }
 
 // best is the choice among the images that are not struck out.

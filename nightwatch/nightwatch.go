@@ -3,6 +3,7 @@ package nightwatch
 
 import (
 	"nightwatch/api"
+	"nightwatch/board"
 	"nightwatch/images"
 )
 
@@ -16,19 +17,27 @@ func Valid(image string) bool { return images.Valid(image) }
 func Choose(a string, b string, strikes [2]int) int { return images.Choose(a, b, strikes) }
 
 // Board is a board.
-type Board struct{}
+type Board struct {
+	inner *board.Board
+}
 
 // New makes a board with two banks (P6).
-func New(a string, b string) (*Board, api.Errno) { return nil, api.OK }
+func New(a string, b string) (*Board, api.Errno) {
+	inner, errno := board.New(a, b)
+	if errno != api.OK {
+		return nil, errno
+	}
+	return &Board{inner}, api.OK
+}
 
 // Step does one cycle (P7).
-func (b *Board) Step(in api.Input) api.Cycle { return api.Cycle{} }
+func (b *Board) Step(in api.Input) api.Cycle { return b.inner.Step(in) }
 
 // Run does some cycles (P8).
 func (b *Board) Run(script []api.Input) []api.Cycle { return nil }
 
 // Tell tells how the board stands (P9).
-func (b *Board) Tell() api.State { return api.State{} }
+func (b *Board) Tell() api.State { return b.inner.Tell() }
 
 // Image tells what is in a bank (P10).
 func (b *Board) Image(bank int) (string, api.Errno) { return "", api.OK }
