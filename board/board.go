@@ -13,6 +13,7 @@ type Board struct {
 	bus       bus
 	clock     *clock
 	banks     *banks
+	memory    *memory
 	timer     *timer
 	watch     *watch
 	port      *port
@@ -31,6 +32,7 @@ func New(a string, b string) (*Board, api.Errno) {
 	board := &Board{
 		clock:   clock,
 		banks:   banks,
+		memory:  &memory{},
 		timer:   &timer{clock: clock},
 		watch:   &watch{clock: clock},
 		port:    &port{},
@@ -39,7 +41,7 @@ func New(a string, b string) (*Board, api.Errno) {
 		hold:    api.Hold,
 	}
 	board.bus = bus{
-		{0x00, 0x7F, &memory{}},
+		{0x00, 0x7F, board.memory},
 		{0x80, 0xBF, program{banks}},
 		{0xC0, 0xC2, board.timer},
 		{0xC3, 0xC4, board.watch},
@@ -77,6 +79,15 @@ func (b *Board) Step(in api.Input) (seen api.Cycle) {
 		return b.show(b.run(in.Port))
 	}
 	return api.Cycle{Kind: api.Held}
+}
+
+// Run does a cycle for each of the inputs.
+func (b *Board) Run(script []api.Input) []api.Cycle {
+	seen := make([]api.Cycle, len(script))
+	for i, in := range script {
+		seen[i] = b.Step(in)
+	}
+	return seen
 }
 
 // sense takes the supply; between the two limits the board stays as it was.
@@ -166,4 +177,20 @@ func (b *Board) Tell() api.State {
 		Count:   int(b.timer.count()),
 		Flag:    b.timer.flag,
 	}
+}
+
+// Image tells the bytes of a bank.
+func (b *Board) Image(bank int) (string, api.Errno) {
+	if bank < 0 || bank >= len(b.banks.content) {
+		return "", api.ErrPlace
+	}
+	return string(b.banks.content[bank][:]), api.OK
+}
+
+// Peek tells a byte of the memory.
+func (b *Board) Peek(addr int) (byte, api.Errno) {
+	if addr < 0 || addr >= len(b.memory) {
+		return 0, api.ErrPlace
+	}
+	return b.memory[addr], api.OK
 }

@@ -413,19 +413,19 @@ func TestUpdaterAtBoot(t *testing.T) {
 	expect(t, board, calm, read(0xC9, 5))
 }
 
+// update is a program that copies its bank into the other one, and makes the number 9 of it.
+const update = "\x01\xe5\x03\xc7" + // 82: open
+	"\x09\x80\x03\xc9" + // 86: the byte at X
+	feed + // 8a
+	"\x0d\x0c\x08\xae\x12\x86" + // 92: X up; until it is 64
+	"\x01\x01\x03\xc8\x01\x09\x03\xc9" + // 98: the number
+	"\x01\x3f\x03\xc8\x02\xbf\x05\xaf\x03\xc9" + // a0: the last byte is less by 2
+	"\x10\xaa" + // aa
+	"\x00\x00\x40\x02" // ac: 0xae is 64, 0xaf is 2
+
 // P7: the program in bank 0 copies itself into the other bank with a greater number, and then it is chosen.
 func TestUpdate(t *testing.T) {
-	// X counts 64 bytes from 0x80 on; the second byte is written one greater, the last one less
-	code := "\x01\xe5\x03\xc7" + // 82: open
-		"\x09\x80" + // 86: the byte at X
-		"\x03\xc9" + // 88
-		"\x01\x96\x03\xc3\x01\x69\x03\xc3" + // 8a: feed
-		"\x0d\x0c\x08\xae\x12\x86" + // 92: X up; until it is 64
-		"\x01\x01\x03\xc8\x01\x09\x03\xc9" + // 98: the number 9
-		"\x01\x3f\x03\xc8\x02\xbf\x05\xaf\x03\xc9" + // a0: the last byte is less by 2
-		"\x10\xaa" + // aa
-		"\x00\x00\x40\x02" // ac: 0xae is 64, 0xaf is 2
-	image := mustBuild(t, code, 7)
+	image := mustBuild(t, update, 7)
 	board := mustNew(t, image, zeroes)
 	steps(board, 4)
 	for cycles := 0; board.Tell().PC != 0xAB; cycles++ {

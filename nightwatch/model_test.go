@@ -284,7 +284,7 @@ func randomCode(r *rand.Rand) string {
 	add := func(bytes ...byte) { code = append(code, bytes...) }
 	device := func() byte { return byte(0xC0 + r.Intn(13)) }
 	for len(code) < 50 {
-		switch r.Intn(10) {
+		switch r.Intn(12) {
 		case 0:
 			add(1, 0x96, 3, 0xC3, 1, 0x69, 3, 0xC3)
 		case 1, 2:
@@ -303,6 +303,10 @@ func randomCode(r *rand.Rand) string {
 			add(opcodes[r.Intn(len(opcodes))])
 		case 9:
 			add(1, byte(1+r.Intn(9)), 3, 0xC0, 0x18, 3, 0xC2)
+		case 10:
+			add(1, 0xE5, 3, 0xC7)
+		case 11:
+			add(2, byte(r.Intn(256)), 3, 0xC9)
 		}
 		if r.Intn(200) == 0 {
 			add(byte(r.Intn(256)))

@@ -34,13 +34,13 @@ func New(a string, b string) (*Board, api.Errno) {
 func (b *Board) Step(in api.Input) api.Cycle { return b.inner.Step(in) }
 
 // Run does some cycles (P8).
-func (b *Board) Run(script []api.Input) []api.Cycle { return nil }
+func (b *Board) Run(script []api.Input) []api.Cycle { return b.inner.Run(script) }
 
 // Tell tells how the board stands (P9).
 func (b *Board) Tell() api.State { return b.inner.Tell() }
 
 // Image tells what is in a bank (P10).
-func (b *Board) Image(bank int) (string, api.Errno) { return "", api.OK }
+func (b *Board) Image(bank int) (string, api.Errno) { return b.inner.Image(bank) }
 
 // Peek tells a byte of the memory (P10).
-func (b *Board) Peek(addr int) (byte, api.Errno) { return 0, api.OK }
+func (b *Board) Peek(addr int) (byte, api.Errno) { return b.inner.Peek(addr) }
